@@ -1,0 +1,1 @@
+"""Endlessnets: nets that go on for ever, told by one cell."""

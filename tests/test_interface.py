@@ -1,0 +1,89 @@
+"""The names, parameters and defaults of the interface, and the conventions of [2] that hold for every module."""
+
+import importlib
+import inspect
+import unittest
+
+FUNCTIONS = {
+    "words": ["is_name(value)", "is_kind(value)", "is_plain(value)", "is_number(value, least, most)", "list_name(at)"],
+    "ratios": ["is_fraction(value)", "ratio(over, under=1)", "plus(one, other)", "minus(one, other)",
+               "times(one, other)", "divided(one, other)", "sign(one)", "is_less(one, other)", "floor_of(one)",
+               "total(*fractions)"],
+    "vectors": ["is_vector(value, directions)", "is_matrix(value, directions)", "zero(directions)",
+                "unit(directions, at)", "identity(directions)", "vector_plus(one, other)", "vector_minus(one, other)",
+                "vector_times(vector, number)", "dot(one, other)", "led(vector, matrix)", "matrix_times(one, other)",
+                "determinant(matrix)", "is_unimodular(value, directions)", "unimodular_inverse(matrix)",
+                "power(matrix, times)", "order_of(matrix)"],
+    "points": ["is_point(value, directions)", "point_of(vector)", "table_of(matrix)", "point_plus(one, other)",
+               "point_minus(one, other)", "point_times(point, fraction)", "point_dot(one, other)",
+               "carried(point, table)", "table_times(one, other)", "table_determinant(table)", "table_inverse(table)",
+               "part(point)", "whole(point)", "whole_matrix(table)", "common(points)", "solved(rows, results)"],
+    "lattices": ["hermite(vectors, width)", "hermite_table(vectors, width)", "sublattices(directions, index)"],
+    "books": ["standard(tie)", "turned(tie)"],
+    "spots": ["is_spot(book, value)", "shifted(spot, vector)", "neighbours(book, spot)", "are_joined(book, one, other)",
+              "shells(book, spot, depth)", "distance(book, one, other, *, most=8)"],
+    "classes": ["classes(book)", "path_between(book, one, other)", "path_sum(book, path)", "is_path(book, value)",
+                "rounds_lattice(book, name)", "place_offset(book, one, other)", "mark(book, spot)",
+                "hang_together(book, one, other)", "pieces(book)", "is_whole(book)", "check_whole(book)"],
+    "routes": ["route(book, one, other)", "is_route(book, one, other, value)", "route_length(route)",
+               "backwards(route)"],
+}
+CLASSES = {
+    ("lattices", "Lattice"): ["__init__(self, directions, vectors=())", "basis(self)", "remainder(self, vector)",
+                              "numbers(self, vector)", "remainders(self)", "led(self, matrix)"],
+    ("books", "Book"): ["__init__(self, directions, places, ties=())", "places(self)", "names(self)", "ties(self)",
+                        "kind(self, name)", "degree(self, name)", "leaving(self, name)", "has_tie(self, value)",
+                        "with_tie(self, tie)", "without(self, *ties)", "with_place(self, name, kind='node')",
+                        "without_place(self, name)", "with_kind(self, name, kind)", "in_one_kind(self, kind='node')",
+                        "text(self)"],
+    ("motions", "Motion"): ["__init__(self, matrix, pictures)", "matrix(self)", "pictures(self)", "lead(self, spot)",
+                            "fits(self, book)", "carry(self, book)", "repeated(self, times)"],
+}
+SPECIAL = {"Lattice": ["__contains__", "__add__", "__and__", "__eq__", "__len__", "__bool__", "__repr__"],
+           "Book": ["__contains__", "__eq__", "__len__", "__bool__", "__repr__", "__str__"],
+           "Motion": ["__mul__", "__invert__", "__eq__", "__repr__"]}
+STATIC = {("books", "Book"): ["read(text)"], ("motions", "Motion"): ["staying(book)", "shifting(book, vector)"]}
+
+
+def name_of(text):
+    return text.partition("(")[0]
+
+
+class InterfaceTest(unittest.TestCase):
+    def test_functions(self):
+        for module_name, texts in FUNCTIONS.items():
+            module = importlib.import_module(f"endlessnets.{module_name}")
+            for text in texts:
+                function = getattr(module, name_of(text))
+                self.assertEqual(f"{name_of(text)}{inspect.signature(function)}", text)
+                self.assertEqual(function.__module__, f"endlessnets.{module_name}")
+
+    def test_classes(self):
+        for (module_name, class_name), texts in CLASSES.items():
+            module = importlib.import_module(f"endlessnets.{module_name}")
+            found = getattr(module, class_name)
+            self.assertEqual(found.__module__, f"endlessnets.{module_name}")
+            for text in texts:
+                self.assertEqual(f"{name_of(text)}{inspect.signature(vars(found)[name_of(text)])}", text)
+            for name in SPECIAL[class_name]:
+                self.assertIn(name, vars(found))
+
+    def test_static_methods(self):
+        for (module_name, class_name), texts in STATIC.items():
+            found = getattr(importlib.import_module(f"endlessnets.{module_name}"), class_name)
+            for text in texts:
+                self.assertIsInstance(vars(found)[name_of(text)], staticmethod)
+                self.assertEqual(f"{name_of(text)}{inspect.signature(getattr(found, name_of(text)))}", text)
+
+    def test_the_property(self):
+        motion = importlib.import_module("endlessnets.motions").Motion
+        self.assertIsInstance(vars(motion)["determinant"], property)
+
+    def test_generators(self):
+        for module_name, name in (("lattices", "sublattices"), ("spots", "shells")):
+            module = importlib.import_module(f"endlessnets.{module_name}")
+            self.assertTrue(inspect.isgeneratorfunction(getattr(module, name)))
+
+
+if __name__ == "__main__":
+    unittest.main()

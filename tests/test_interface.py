@@ -27,6 +27,20 @@ FUNCTIONS = {
                 "hang_together(book, one, other)", "pieces(book)", "is_whole(book)", "check_whole(book)"],
     "routes": ["route(book, one, other)", "is_route(book, one, other, value)", "route_length(route)",
                "backwards(route)"],
+    "resting": ["rest(book)", "is_rest(book, value)", "excess(book, points)", "resting_point(book, spot)",
+                "step(book, tie)", "spot_at(book, point)"],
+    "shapes": ["pull_table(book)", "shape(book)", "product(book, one, other)", "square(book, point)",
+               "tie_squares(book)", "longest(book)"],
+    "flows": ["calm_flow(book, drift)", "is_flow(book, value)", "is_balanced(book, flow)", "drift(book, flow)",
+              "work(book, flow)", "round_flow(book, path)"],
+    "steadiness": ["clash(book)", "is_steady(book)", "check_steady(book)", "dead_ends(book)", "loose(book)",
+                   "twins(book)"],
+    "settling": ["peeled(book)", "folded(book)", "settled(book)", "is_readable(value)", "restored(book)"],
+    "trials": ["trial(one, other, table, point)", "pictures(one, other, table, point)"],
+    "leastbooks": ["hidden_shifts(book)", "candidates(book)", "is_least(book)", "check_least(book)"],
+    "frames": ["steps(book)", "measure(book, frame)", "is_frame(book, value)", "least_frames(book)"],
+    "samenesses": ["beginnings(one, other)", "motions(one, other)", "is_sameness(one, other, value)",
+                   "verdict(one, other)", "is_verdict(one, other, value)", "same(one, other, *, kinds=True)"],
 }
 CLASSES = {
     ("lattices", "Lattice"): ["__init__(self, directions, vectors=())", "basis(self)", "remainder(self, vector)",
@@ -38,10 +52,19 @@ CLASSES = {
                         "text(self)"],
     ("motions", "Motion"): ["__init__(self, matrix, pictures)", "matrix(self)", "pictures(self)", "lead(self, spot)",
                             "fits(self, book)", "carry(self, book)", "repeated(self, times)"],
+    ("ownbooks", "OwnBook"): ["__init__(self, book, name)", "to_own(self, spot)", "to_outer(self, spot)"],
+    ("leastbooks", "LeastBook"): ["__init__(self, book)", "basis(self)", "to_least(self, spot)",
+                                  "to_outer(self, spot)"],
+    ("coarsebooks", "CoarseBook"): ["__init__(self, book, lattice)", "to_coarse(self, spot)", "to_outer(self, spot)",
+                                    "coarse_motion(self, vector)"],
+    ("samenesses", "Sameness"): ["__init__(self, one, other, motion)", "lead(self, spot)", "back(self, spot)",
+                                 "affine(self)", "inverse(self)"],
 }
 SPECIAL = {"Lattice": ["__contains__", "__add__", "__and__", "__eq__", "__len__", "__bool__", "__repr__"],
            "Book": ["__contains__", "__eq__", "__len__", "__bool__", "__repr__", "__str__"],
-           "Motion": ["__mul__", "__invert__", "__eq__", "__repr__"]}
+           "Motion": ["__mul__", "__invert__", "__eq__", "__repr__"],
+           "OwnBook": ["__len__", "__repr__"], "LeastBook": ["__len__", "__repr__"],
+           "CoarseBook": ["__len__", "__repr__"], "Sameness": ["__eq__", "__repr__"]}
 STATIC = {("books", "Book"): ["read(text)"], ("motions", "Motion"): ["staying(book)", "shifting(book, vector)"]}
 
 
@@ -80,7 +103,7 @@ class InterfaceTest(unittest.TestCase):
         self.assertIsInstance(vars(motion)["determinant"], property)
 
     def test_generators(self):
-        for module_name, name in (("lattices", "sublattices"), ("spots", "shells")):
+        for module_name, name in (("lattices", "sublattices"), ("spots", "shells"), ("samenesses", "beginnings")):
             module = importlib.import_module(f"endlessnets.{module_name}")
             self.assertTrue(inspect.isgeneratorfunction(getattr(module, name)))
 

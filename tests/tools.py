@@ -24,3 +24,27 @@ def outcome(function, *told, **more):
 def raised(code, **attributes):
     """The outcome of a call that raises an error."""
     return (code, attributes)
+
+
+def falls_first(test, function, *more, falling, **named):
+    """Each of the books that are not whole has its error ahead of all others, whatever is passed beside it."""
+    for book, many in falling:
+        test.assertEqual(outcome(function, book, *more, **named), raised("Falls", many=many))
+
+
+def emptied(value):
+    """Empties all lists and dicts within a value."""
+    inner = value.values() if isinstance(value, dict) else value
+    for item in list(inner) if isinstance(value, (list, tuple, dict)) else ():
+        emptied(item)
+    if isinstance(value, (list, dict)):
+        value.clear()
+
+
+def gives_new(test, function, *told, **more):
+    """Equal calls return equal results, and what is done to one result does not change the next one."""
+    first = function(*told, **more)
+    kept = repr(first)
+    test.assertEqual(repr(function(*told, **more)), kept)
+    emptied(first)
+    test.assertEqual(repr(function(*told, **more)), kept)

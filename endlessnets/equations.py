@@ -22,8 +22,6 @@ def triangle(rows, width):
 
 def unknowns(rows, width, at):
     """The fractions that solve the rows of a triangle with their results at an index behind the unknowns."""
-    if not rows:
-        return []
     under = rows[-1][0]
     found = []
     for row in reversed(rows):

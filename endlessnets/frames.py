@@ -27,11 +27,11 @@ def are_independent(rows):
     return len(hermite(rows, len(rows[0]))) == len(rows)
 
 
-def longer_frames(frames, steps, matrix):
+def longer_frames(frames, known, matrix):
     """The tuples with one more step that have the least new products, and are independent."""
     least = None
     found = []
-    ends = [(step, led(step, matrix)) for step in steps]
+    ends = [(step, led(step, matrix)) for step in known]
     for frame in frames:
         for step, image in ends:
             products = [*[dot(one, image) for one in frame], dot(step, image)]
@@ -45,9 +45,9 @@ def longer_frames(frames, steps, matrix):
 
 def least_among(book, points):
     """The ascending list of the least frames, for a book with these points in the rest."""
-    steps = steps_among(book, points)
-    scale = common(steps)
-    vectors = {enlarged(step, scale): step for step in steps}
+    known = steps_among(book, points)
+    scale = common(known)
+    vectors = {enlarged(step, scale): step for step in known}
     table = shape_among(book, points)
     # Whole numbers are compared faster than fractions, and a common scale keeps the order of the products.
     matrix = [enlarged(row, common(table)) for row in table]

@@ -25,15 +25,14 @@ def dressed(kind, hung):
 
 def closes(sign, depths):
     """Whether a bracket closes the last one of those that are open, told with the numbers of their items."""
-    if not depths or depths[-1][0] != PARTNERS[sign]:
-        return False
-    return sign == ")" or depths[-1][1] > 1
+    opened, many = depths[-1]
+    return opened == PARTNERS[sign] and (sign == ")" or many > 1)
 
 
 def readable_from(kind):
     """Whether a kind is readable from its beginning to its end."""
     depths = []
-    # A kind begins behind an open bracket or a comma; letters go on; behind all else a bracket or a comma must follow.
+    # A kind begins behind an opening bracket or a comma; letters go on; behind all else a bracket or comma must follow.
     begins, letters = True, False
     for sign in kind:
         if sign in LETTERS:
@@ -53,7 +52,7 @@ def readable_from(kind):
         else:
             depths.pop()
         begins, letters = sign in ("[", "(", ","), sign in LETTERS
-    return not begins and not depths
+    return not depths
 
 
 def plain_many(kind):
@@ -98,6 +97,6 @@ def taken_off(kind):
 
 
 def free_names(used, many):
-    """So many names that are not in use."""
-    names = [list_name(at) for at in range(2 * MOST_PLACES)]
+    """So many names that are not in use, where no more than 64 places come about."""
+    names = [list_name(at) for at in range(MOST_PLACES)]
     return [name for name in names if name not in used][:many]

@@ -1,7 +1,7 @@
 """Own books: one piece of a net, told alone, with as many directions as it repeats itself in."""
 
 from endlessnets.books import Book
-from endlessnets.classes import check_name, path_sum, paths_from, rounds_lattice
+from endlessnets.classes import path_sum, paths_from, rounds_lattice
 from endlessnets.errors import Finite
 from endlessnets.spots import check_spot
 from endlessnets.vectors import led, vector_minus, vector_plus
@@ -11,7 +11,6 @@ class OwnBook:
     """The book of the piece of one spot, and the way from its net to the net of the outer book and back."""
 
     def __init__(self, book, name):
-        check_name(book, name)
         rounds = rounds_lattice(book, name)
         if rounds.rank == 0:
             raise Finite(name)
@@ -19,7 +18,7 @@ class OwnBook:
         self.outer = book
         self.name = name
         self._rounds = rounds
-        self._offsets = {place: rounds.remainder(path_sum(book, paths[place])) for place in sorted(paths)}
+        self._offsets = {place: rounds.remainder(path_sum(book, paths[place])) for place in paths}
         places = [(place, book.kind(place)) for place in self._offsets]
         ties = [self._own_tie(tie) for tie in book.ties() if tie[0] in self._offsets]
         self.book = Book(rounds.rank, places, ties)

@@ -8,7 +8,6 @@ from endlessnets.motions import Motion
 from endlessnets.points import table_inverse, table_of, table_times, whole_matrix
 from endlessnets.resting import resting_point
 from endlessnets.shapes import shape_among
-from endlessnets.spots import check_spot
 from endlessnets.trials import break_of, picture_in
 from endlessnets.vectors import zero
 from endlessnets.words import is_integer_value
@@ -64,7 +63,7 @@ def ends_between(one, other):
 
 def motions_among(ends):
     """The motions in which beginnings ended, in the ascending order of their matrices."""
-    by_matrix = {motion.matrix(): motion for _, _, motion in ends if motion is not None}
+    by_matrix = {motion.matrix(): motion for _, stop, motion in ends if stop is None}
     return [by_matrix[matrix] for matrix in sorted(by_matrix)]
 
 
@@ -176,12 +175,10 @@ class Sameness:
 
     def lead(self, spot):
         """The spot of the other net for a spot of the first one."""
-        check_spot(self.one, spot)
         return self._right.to_outer(self.motion.lead(self._left.to_least(spot)))
 
     def back(self, spot):
         """The spot of the first net for a spot of the other one."""
-        check_spot(self.other, spot)
         motion = ~self.motion
         return self._left.to_outer(motion.lead(self._right.to_least(spot)))
 

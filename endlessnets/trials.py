@@ -32,7 +32,7 @@ def picture_in(one, other, name, table, point):
 def break_of(one, other, table, point):
     """The break of a trial from one laid book to another one, None if there is none."""
     matrix = whole_matrix(table)
-    if matrix is None or not is_turning(matrix):
+    if not is_turning(matrix):
         return ("table",)
     found = {}
     for name in one.points:

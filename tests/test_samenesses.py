@@ -332,6 +332,13 @@ class SamenessTest(unittest.TestCase):
                            Motion(identity(2), {"a": ("b", (0, 0))}))
         self.assertFalse(renamed == Sameness(SQUARE, SQUARE, Motion.staying(SQUARE)))
         self.assertEqual(repr(renamed), "Sameness(1 and 1 places)")
+        # Books with one least book differ, though the motions are equal.
+        staying = Motion.staying(SQUARE)
+        wide = plain(2, "ab", [tuple(name[-1] for name in tie[:2]) + tie[2:] for tie in WIDE.ties()])
+        self.assertEqual(LeastBook(wide).book, SQUARE)
+        told = [Sameness(one, other, staying) for one in (SQUARE, wide) for other in (SQUARE, wide)]
+        for one, other in itertools.product(told, repeat=2):
+            self.assertIs(one == other, one is other)
 
     def test_errors(self):
         pairs_raise(self, Sameness, BAD, SQUARE, None)

@@ -366,6 +366,8 @@ class RestoredTest(unittest.TestCase):
         # 65 places would have more than 400 ties, too.
         listed_kind = "[" + ",".join(["x"] * 65) + "]"
         self.assertEqual(outcome(restored, Book(1, [("a", listed_kind)], [("a", "a", (1,))])), raised("TooMany", most=64))
+        beside = Book(1, [("a", listed_kind[:-3] + "]"), ("b", "x")], [("a", "a", (1,)), ("a", "b", (0,))])
+        self.assertEqual(outcome(restored, beside), raised("TooMany", most=64))
         two = Book(1, [("a", "x" + "(y)" * 31), ("b", "x" + "(y)" * 32)], [("a", "b", (1,)), ("a", "b", (0,))])
         self.assertEqual(outcome(restored, two), raised("TooMany", most=64))
         self.assertEqual(len(restored(two.with_kind("b", "x" + "(y)" * 31))), 64)

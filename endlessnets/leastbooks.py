@@ -9,7 +9,7 @@ from endlessnets.points import table_inverse, table_of, whole
 from endlessnets.ratios import ratio
 from endlessnets.spots import check_spot
 from endlessnets.trials import break_of
-from endlessnets.vectors import identity, unit, vector_minus, vector_times, zero
+from endlessnets.vectors import identity, vector_minus, zero
 
 
 def candidates_of(laid):
@@ -31,11 +31,10 @@ def check_shifts(laid):
         raise NotLeast(shifts[0])
 
 
-def fine_basis(shifts, directions):
-    """The basis of the lattice of all vectors and some shifts, as a table."""
-    scale = common(shifts)
-    vectors = [vector_times(unit(directions, at), scale) for at in range(directions)]
-    rows = hermite([*vectors, *[enlarged(shift, scale) for shift in shifts]], directions)
+def basis_of_points(points):
+    """The basis of the lattice of a list of points, as a table."""
+    scale = common(points)
+    rows = hermite([enlarged(point, scale) for point in points], len(points[0]))
     return tuple([point_times(point_of(row), ratio(1, scale)) for row in rows])
 
 
@@ -69,7 +68,7 @@ class LeastBook:
         self._laid = laid
         self._parts = [point_of(zero(book.directions)), *shifts]
         self.factor = len(self._parts)
-        self._basis = fine_basis(shifts, book.directions)
+        self._basis = basis_of_points([*table_of(identity(book.directions)), *shifts])
         self._inverse = table_inverse(self._basis)
         self._firsts = self._first_places()
         places = [(name, kind) for name, kind in book.places() if self._firsts[name] == name]

@@ -1,10 +1,14 @@
-"""The examples at the end of the document, as far as their modules exist."""
+"""The examples at the end of the document."""
 
 import unittest
 
+from endlessnets.bench import Bench
 from endlessnets.books import Book
 from endlessnets.classes import mark, pieces
 from endlessnets.coarsebooks import CoarseBook
+from endlessnets.colours import colouring
+from endlessnets.far import norm
+from endlessnets.keys import key
 from endlessnets.lattices import Lattice
 from endlessnets.leastbooks import LeastBook, hidden_shifts
 from endlessnets.resting import rest
@@ -54,6 +58,22 @@ class ExamplesTest(unittest.TestCase):
 
     def test_no_rest(self):
         self.assertEqual(outcome(rest, Book(2, [("a", "node")], [("a", "a", (1, 0))])), raised("Falls", many=None))
+
+    def test_the_key(self):
+        found = key(Book(1, [("a", "node")], [("a", "a", (1,))]))
+        self.assertEqual(found, ((((1, 1),),), ((((0, 1),), "node", (((-1, 1),), ((1, 1),))),)))
+
+    def test_the_square(self):
+        square = Book(2, [("a", "node")], [("a", "a", (1, 0)), ("a", "a", (0, 1))])
+        self.assertEqual([norm(square, (2, -3)), colouring(square)], [(5, 1), ({"a": 0}, (1, 1))])
+
+    def test_the_bench(self):
+        square = Book(2, [("a", "node")], [("a", "a", (1, 0)), ("a", "a", (0, 1))])
+        bench = Bench()
+        bench.do(("put", "one", square), ("copy", "one", "two"), ("tie", "two", ("a", "a", (1, 1))))
+        found = [bench("nets"), bench("turns one"), bench("turns two"), bench("same one two"), bench("colours two"),
+                 bench.undo(), bench("nets"), bench("rest")]
+        self.assertEqual(found, ["one two", "8", "12", "no", "odd", None, "none", "unknown"])
 
     def test_a_wrong_text(self):
         text = "net 1\nplace a node\nplace b node\ntie a b 0\ntie b a 0\nend\n"

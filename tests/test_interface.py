@@ -41,6 +41,18 @@ FUNCTIONS = {
     "frames": ["steps(book)", "measure(book, frame)", "is_frame(book, value)", "least_frames(book)"],
     "samenesses": ["beginnings(one, other)", "motions(one, other)", "is_sameness(one, other, value)",
                    "verdict(one, other)", "is_verdict(one, other, value)", "same(one, other, *, kinds=True)"],
+    "keys": ["portrait(book, name, frame)", "key(book)", "settled_key(book)"],
+    "turns": ["turns(book)", "standard_motion(book, motion)", "mirrors(book)", "is_handed(book)", "place_orbits(book)",
+              "tie_orbits(book)", "holders(book, name)", "offset_point(book, motion)", "still_point(book, motion)"],
+    "far": ["is_simple_round(book, value)", "simple_rounds(book)", "norm(book, vector)", "far_paper(book, vector)",
+            "is_far_paper(book, vector, value)", "period(paper)", "far_route(book, name, paper, times)",
+            "least_distance(book, paper, one, other)"],
+    "rings": ["ring_number(book, tie, *, most=8)", "ring_numbers(book, *, most=8)"],
+    "colours": ["colouring(book)", "odd_route(book)", "colour_of(book, spot)"],
+    "strikes": ["struck(book, ties)", "weakest(book, *, most=2)"],
+    "making": ["crossed(one, other)", "split(book)", "clothed(book)"],
+    "papers": ["is_right(books, paper)"],
+    "benchtexts": ["write_bench(bench)", "read_bench(text)"],
 }
 CLASSES = {
     ("lattices", "Lattice"): ["__init__(self, directions, vectors=())", "basis(self)", "remainder(self, vector)",
@@ -59,12 +71,26 @@ CLASSES = {
                                     "coarse_motion(self, vector)"],
     ("samenesses", "Sameness"): ["__init__(self, one, other, motion)", "lead(self, spot)", "back(self, spot)",
                                  "affine(self)", "inverse(self)"],
+    ("nets", "Net"): ["__init__(self, book, *, label='')", "is_whole(self)", "is_steady(self)", "relabel(self, label)",
+                      "add_tie(self, tie)", "strike(self, tie)", "add_place(self, name, kind='node')",
+                      "remove_place(self, name)", "paint(self, name, kind)", "retell(self, motion)",
+                      "coarsen(self, lattice)", "reduce(self)", "settle(self)", "rest(self)", "key(self)", "turns(self)",
+                      "twin(self)"],
+    ("bench", "Bench"): ["__init__(self)", "do(self, *deeds)", "undo(self)", "redo(self)", "history(self)", "names(self)",
+                         "net(self, name)", "shelf(self)", "journal(self)", "tried(self, *deeds)",
+                         "paper(self, word, *names)", "far_paper(self, name, vector)", "holds(self, paper)", "text(self)",
+                         "say(self, line)", "__call__(self, line)", "log(self)", "twin(self)"],
 }
 SPECIAL = {"Lattice": ["__contains__", "__add__", "__and__", "__eq__", "__len__", "__bool__", "__repr__"],
            "Book": ["__contains__", "__eq__", "__len__", "__bool__", "__repr__", "__str__"],
            "Motion": ["__mul__", "__invert__", "__eq__", "__repr__"],
            "OwnBook": ["__len__", "__repr__"], "LeastBook": ["__len__", "__repr__"],
-           "CoarseBook": ["__len__", "__repr__"], "Sameness": ["__eq__", "__repr__"]}
+           "CoarseBook": ["__len__", "__repr__"], "Sameness": ["__eq__", "__repr__"],
+           "Net": ["__len__", "__bool__", "__repr__"],
+           "Bench": ["__contains__", "__eq__", "__len__", "__bool__", "__repr__"]}
+PROPERTIES = {("motions", "Motion"): [("determinant", False)],
+              ("nets", "Net"): [("present", False), ("label", True), ("changes", False)],
+              ("bench", "Bench"): [("busy", False)]}
 STATIC = {("books", "Book"): ["read(text)"], ("motions", "Motion"): ["staying(book)", "shifting(book, vector)"]}
 
 
@@ -98,9 +124,12 @@ class InterfaceTest(unittest.TestCase):
                 self.assertIsInstance(vars(found)[name_of(text)], staticmethod)
                 self.assertEqual(f"{name_of(text)}{inspect.signature(getattr(found, name_of(text)))}", text)
 
-    def test_the_property(self):
-        motion = importlib.import_module("endlessnets.motions").Motion
-        self.assertIsInstance(vars(motion)["determinant"], property)
+    def test_properties(self):
+        for (module_name, class_name), properties in PROPERTIES.items():
+            found = vars(getattr(importlib.import_module(f"endlessnets.{module_name}"), class_name))
+            for name, assigned in properties:
+                self.assertIsInstance(found[name], property)
+                self.assertEqual(found[name].fset is not None, assigned)
 
     def test_generators(self):
         for module_name, name in (("lattices", "sublattices"), ("spots", "shells"), ("samenesses", "beginnings")):

@@ -1,7 +1,10 @@
 """What several tests need: any values, and calls that must raise."""
 
+from endlessnets.bench import Bench
 from endlessnets.books import Book
+from endlessnets.errors import Misfit
 from endlessnets.lattices import Lattice
+from endlessnets.nets import Net
 
 LETTERS = "abcdefghijklmnopqrstuvwxyz"
 ANY_VALUES = [
@@ -9,6 +12,7 @@ ANY_VALUES = [
     [1, 1], (True, 1), (0, 0), (0, 0, 0), ((1, 0), (0, 1)), ((1,),), [(1,)], ("a", (0, 0)), ("a", [0, 0]),
     (("a", (0,)),), {"a": (1, 2)}, {"a": {"b": [None]}}, ((((((((1,),),),),),),),), (None, None), (1, "a", (0, 0)),
     ("a", "b", (0, 0)), ("a", "a", (True, 0)), Book(1, [("a", "node")]), Lattice(2),
+    Net(Book(1, [("a", "node")])), Bench(), Misfit(),
 ]
 
 

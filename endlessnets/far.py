@@ -47,24 +47,15 @@ def heights_behind(book, front):
     return tuple([(name, found[name]) for name in book.names()])
 
 
-def fastest(book, vector):
-    """The front and the rounds with their fractions by which a vector that is not zero is reached."""
+def paper_for(book, vector):
+    """A far paper for a vector."""
     known = rounds_by_sum(book)
     chosen = rounds_towards(list(known), vector)
     sums = [point_of(reached) for reached, _ in chosen]
     front = solved(sums, [ratio(length) for _, length in chosen])
     numbers = solved(list(zip(*sums)), list(point_of(vector)))
     rounds = [(number, known[pair]) for number, pair in zip(numbers, chosen) if number != NOTHING]
-    return (front, tuple(rounds))
-
-
-def paper_for(book, vector):
-    """A far paper for a vector."""
-    if vector == zero(book.directions):
-        front, rounds = point_of(vector), ()
-    else:
-        front, rounds = fastest(book, vector)
-    return (point_dot(front, point_of(vector)), front, heights_behind(book, front), rounds)
+    return (point_dot(front, point_of(vector)), front, heights_behind(book, front), tuple(rounds))
 
 
 def are_heights(book, front, value):

@@ -58,7 +58,7 @@ def corners_around(points, vector):
 
 
 def rounds_towards(pairs, vector):
-    """As many pairs (sum, length) as directions, whose rounds lead the fastest to a vector that is not zero."""
+    """As many pairs (sum, length) as directions, whose rounds lead the fastest to a vector."""
     scale = 1
     for _, length in pairs:
         scale = lcm(scale, length)

@@ -266,6 +266,22 @@ class PaperTest(unittest.TestCase):
                 self.assertIs(is_far_paper(book, vector, (least, front, bent, rounds)), False)
             self.assertIs(is_far_paper(book, vector, (least, front, heights[::-1], rounds)), False)
 
+    def test_rounds_that_are_too_long(self):
+        """The rounds reach the vector, but not with the length of the norm."""
+        least, front, heights, rounds = far_paper(SQUARE, (1, 0))
+        aside = tuple(((1, 1), (("a", "a", (0, number)),)) for number in (1, -1))
+        self.assertIs(is_far_paper(SQUARE, (1, 0), (least, front, heights, rounds)), True)
+        self.assertIs(is_far_paper(SQUARE, (1, 0), (least, front, heights, rounds + aside)), False)
+        for book in BOOKS:
+            for vector in vectors_of(book, 536)[:6]:
+                least, front, heights, rounds = far_paper(book, vector)
+                around = tuple(((1, 1), path) for path in rounds_by_hand(book)
+                               if not any(sum_of(book, path)))[:1]
+                back_and_forth = next(path for path in rounds_by_hand(book) if any(sum_of(book, path)))
+                back = tuple(turned_by_hand(tie) for tie in reversed(back_and_forth))
+                around = around or (((1, 2), back_and_forth), ((1, 2), back))
+                self.assertIs(is_far_paper(book, vector, (least, front, heights, rounds + around)), False)
+
     def test_any_values(self):
         for book, vector in ((SQUARE, (0, 0)), (CHAIN, (5,)), (COMB, (1, 2))):
             for value in ANY_VALUES:

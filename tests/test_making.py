@@ -203,6 +203,7 @@ class ClothedTest(unittest.TestCase):
         self.assertEqual(outcome(clothed, even.with_tie(("b", "b", (1,)))), raised("TooMany", most=400))
         self.assertEqual(outcome(clothed, cycle(1, 33)), raised("TooMany", most=64))
         self.assertEqual(outcome(clothed, cycle(1, 32)), raised("TooMany", most=400))
+        self.assertEqual(outcome(clothed, cycle(64, 400)), raised("TooMany", most=64))
 
     def test_finite(self):
         self.assertEqual(outcome(clothed, LONELY[0]), raised("Finite", name="a"))

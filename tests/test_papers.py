@@ -15,7 +15,7 @@ from endlessnets.resting import rest
 from endlessnets.samenesses import motions, verdict
 from endlessnets.steadiness import clash
 from fractional import numbers, pairs, plus
-from samples import BEADS, CHAIN, COMB, CUBE, DIAMOND, HEXAGONAL, LADDER, SKEW, SQUARE, TREE, TWO_PIECES, WIDE
+from samples import BEADS, CHAIN, COMB, CUBE, DIAMOND, HEXAGONAL, LADDER, SKEW, SQUARE, TREE, TWO_PIECES, WIDE, plain
 from test_samenesses import with_false
 from tools import ANY_VALUES, emptied, gives_new, outcome, raised
 
@@ -120,6 +120,16 @@ class RightTest(unittest.TestCase):
                                 ("odd", [list(part) for part in odd]), ("odd", [(True, path) for _, path in odd]))
         for value in (("colouring", ({"a": 0}, (0, 0))), ("colouring", ({"a": 0}, (0, 1))), ("odd", [])):
             self.check(("colour", ("falls",), value), False)
+        odd = odd_route(HEXAGONAL)
+        for word in ("even", "", None, "colour", ["odd"]):
+            self.check(("colour", ("hex",), (word, odd)), False)
+        # What would be right, if the net were one piece.
+        thirds = plain(2, "a", [("a", "a", (1, 0)), ("a", "a", (0, 3))])
+        self.assertIs(is_right({"x": thirds}, ("colour", ("x",), ("colouring", ({"a": 0}, (1, 1))))), False)
+        flat = plain(2, "a", [("a", "a", (1, 0)), ("a", "a", (2, 0))])
+        around = [(2, (("a", "a", (1, 0)),)), (1, (("a", "a", (-2, 0)),))]
+        self.assertIs(is_right({"x": flat}, ("colour", ("x",), ("odd", around))), False)
+        self.assertIs(is_right({"x": flat.with_tie(("a", "a", (0, 1)))}, ("colour", ("x",), ("odd", around))), True)
 
     def test_far(self):
         chance = random.Random(591)

@@ -76,6 +76,8 @@ class RingTest(unittest.TestCase):
         self.assertEqual(ring_number(most=16, tie=("b", "a", (0,)), book=ROUNDS[16]), 16)
         self.assertIsNone(ring_number(ROUNDS[17], ("a", "b", (0,)), most=16))
         self.assertIsNone(ring_number(ROUNDS[9], ("a", "b", (0,))))
+        self.assertIsNone(ring_numbers(ROUNDS[9])[("a", "b", (0,))])
+        self.assertEqual(ring_numbers(ROUNDS[8])[("a", "b", (0,))], 8)
 
     def test_ring_numbers(self):
         for book in BOOKS:
